@@ -1,0 +1,1 @@
+"""spiraldue: losses that go round among insurers of one another."""
