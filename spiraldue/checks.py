@@ -1,6 +1,6 @@
-"""What values must be like: numbers, names and panels (points 2 and 7)."""
+"""What values must be like: numbers, names, treaties and panels (points 2 and 7)."""
 
-from spiraldue.errors import BadName, BadPanel, NoSuchName
+from spiraldue.errors import BadName, BadPanel, NoSuchName, NoSuchTreaty
 
 LETTERS = "abcdefghijklmnopqrstuvwxyz"
 MOST_LETTERS = 12
@@ -33,6 +33,18 @@ def check_known(name, names):
     """Raises NoSuchName if a name is none of some names."""
     if name not in names:
         raise NoSuchName(name)
+
+
+def check_names(market, event, insurer):
+    """Raises NoSuchName for an event that a market does not have, then for an insurer."""
+    check_known(event, market.events)
+    check_known(insurer, market.insurers)
+
+
+def check_treaty(number, treaties):
+    """Raises NoSuchTreaty if a number is none of some treaties."""
+    if not is_between(number, 0, len(treaties) - 1):
+        raise NoSuchTreaty(number)
 
 
 def is_entry(value):

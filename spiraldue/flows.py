@@ -43,6 +43,12 @@ def panel_parts(panel, amount):
     return allocate(amount, [shares for _, shares in panel])
 
 
+def part_of(panel, name, amount):
+    """The part of one participant in what a treaty pays, 0 if it does not stand in the panel."""
+    parts = panel_parts(panel, amount)
+    return sum([part for (participant, _), part in zip(panel, parts) if participant == name])
+
+
 def next_gross(insurers, treaties, direct, gross):
     """The gross losses of the round behind some gross losses."""
     losses = {insurer: loss for insurer, loss in zip(insurers, direct)}

@@ -1,8 +1,8 @@
 """Markets: insurers, events, treaties and direct losses (points 7 to 10)."""
 
-from spiraldue.checks import check_known, check_name, check_panel, is_between
+from spiraldue.checks import check_known, check_name, check_panel, check_treaty, is_between
 from spiraldue.covers import check_cover
-from spiraldue.errors import BadAmount, NameTaken, NoSuchTreaty, OwnPanel, TooMany, TreatyEnded, Twice
+from spiraldue.errors import BadAmount, NameTaken, OwnPanel, TooMany, TreatyEnded, Twice
 from spiraldue.flows import rounds_to_end
 
 MOST_DIRECT = 100000
@@ -76,8 +76,7 @@ class Market:
 
     def terminate(self, number):
         """Ends a treaty: from then on it pays 0."""
-        if not is_between(number, 0, len(self.treaties) - 1):
-            raise NoSuchTreaty(number)
+        check_treaty(number, self.treaties)
         cedent, cover, panel, ended = self.treaties[number]
         if ended:
             raise TreatyEnded(number)

@@ -4,11 +4,7 @@ import unittest
 
 from spiraldue.errors import NoEnd
 from spiraldue.flows import next_gross, rounds_to_end, treaty_payments
-from tests.helper import FULL, caught, market_of, refused, state
-
-TO_A = (("a", 1),)
-TO_B = (("b", 1),)
-OUT = ((None, 1),)
+from tests.helper import FULL, OUT, TO_A, TO_B, caught, example, market_of, refused, ring, state, web
 
 
 def rounds(market, event="storm"):
@@ -36,32 +32,6 @@ def plain_next(market, event, gross):
             if participant is not None:
                 losses[participant] += 1
     return tuple(losses.values())
-
-
-def example():
-    """The market of the document's example."""
-    market = market_of(("a", "b"))
-    market.add_treaty("a", ("layer", 100, 300), TO_B)
-    market.add_treaty("b", ("layer", 50, 200), (("a", 1), (None, 1)))
-    market.set_loss("storm", "a", 160)
-    return market
-
-
-def web():
-    """A market in which all cover one another, one treaty ended."""
-    market = market_of(("c", "a", "b"), ("storm", "flood", "quake"))
-    market.add_treaty("c", ("share", 300), (("a", 2), ("b", 1), (None, 1)))
-    market.add_treaty("a", ("layer", 20, 50), (("b", 1), ("c", 2)))
-    market.add_treaty("c", ("layer", 40, 30), (("b", 3), ("a", 1)))
-    market.add_treaty("b", ("share", 250), ((None, 2), ("c", 5)))
-    market.add_treaty("a", ("share", 600), OUT)
-    market.add_treaty("b", ("layer", 5, 60), (("a", 7), ("c", 2)))
-    market.terminate(4)
-    market.set_loss("storm", "c", 97)
-    market.set_loss("flood", "a", 61)
-    market.set_loss("flood", "b", 33)
-    market.set_loss("quake", "b", 88)
-    return market
 
 
 class PaymentsTest(unittest.TestCase):
@@ -138,23 +108,16 @@ class RoundsTest(unittest.TestCase):
 class FixedRoundTest(unittest.TestCase):
     """A layer of the limit m from 0, and all of it back, take 2 * m rounds for a loss of 1."""
 
-    def build(self, limit, insurer):
-        market = market_of(("a", "b"))
-        market.add_treaty("a", ("layer", 0, limit), TO_B)
-        market.add_treaty("b", FULL, TO_A)
-        market.set_loss("storm", insurer, 1)
-        return market
-
     def test_round_200_is_the_last_one(self):
-        market = self.build(100, "a")
+        market = ring(100, 1)
         self.assertEqual(len(rounds(market)), 201)
         self.assertEqual(rounds(market)[-2:], ((100, 100), (101, 100)))
 
     def test_round_199(self):
-        self.assertEqual(len(rounds(self.build(99, "b"))), 200)
+        self.assertEqual(len(rounds(ring(99, 1, "b"))), 200)
 
     def test_round_201_is_one_too_many(self):
-        market = self.build(100, "a")
+        market = ring(100, 1)
         market.set_loss("storm", "a", 0)
         refused(self, market, NoEnd, market.set_loss, "storm", "b", 1)
         caught(self, NoEnd, rounds_to_end, market.insurers, market.treaties, (0, 1))
