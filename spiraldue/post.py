@@ -31,8 +31,9 @@ class Trial:
         self.treaties = market.treaties
         self.losses = market.losses
         self.post = post
-        self.numbers = post.numbers
+        post.is_kept = True
         self.notices = post.notices
+        self.numbers = post.numbers
         self.last = post.last
         self.received = post.received
         self.paid = post.paid
@@ -42,19 +43,16 @@ class Trial:
 
     def __exit__(self, kind, value, trace):
         post = self.post
-        post.numbers = self.numbers
+        post.is_kept = True
         post.notices = self.notices
+        post.numbers = self.numbers
         post.last = self.last
         post.received = self.received
         post.paid = self.paid
-        self.restore_market()
-
-    def restore_market(self):
-        market = self.market
-        market.insurers = self.insurers
-        market.events = self.events
-        market.treaties = self.treaties
-        market.losses = self.losses
+        self.market.insurers = self.insurers
+        self.market.events = self.events
+        self.market.treaties = self.treaties
+        self.market.losses = self.losses
 
 
 class Post:
@@ -62,18 +60,21 @@ class Post:
 
     def __init__(self, market):
         self.market = market
+        # All notices in the order of their numbers, None for a dropped one. To copy this list for each new notice
+        # would take too long, so it is changed itself, and copied only if a trial keeps it.
+        self.notices = []
+        self.is_kept = False
         # Each of these is replaced as a whole by a change, never changed itself, so that a trial can keep it.
         self.numbers = ()
-        self.notices = {}
         self.last = {}
         self.received = {}
         self.paid = {}
 
     def __len__(self):
-        return len(self.numbers)
+        return len(self.notices)
 
     def __iter__(self):
-        return iter(self.notices)
+        return iter(self.numbers)
 
     def send(self, insurer):
         """Sends all changes of an insurer and tells the numbers of the new notices."""
@@ -106,13 +107,16 @@ class Post:
     def drop(self, number):
         """Loses a notice; what was received stays."""
         self.notice(number)
-        self.notices = {key: self.notices[key] for key in self.notices if key != number}
+        index = self.numbers.index(number)
+        self.numbers = self.numbers[:index] + self.numbers[index + 1:]
+        self._take_notices()
+        self.notices[number - 1] = None
 
     def notice(self, number):
         """The tuple (recipient, treaty, event, sequence, schedule) of a notice."""
-        if not is_between(number, 1, len(self.numbers)) or number not in self.notices:
+        if not is_between(number, 1, len(self.notices)) or self.notices[number - 1] is None:
             raise NoSuchNotice(number)
-        return self.notices[number]
+        return self.notices[number - 1]
 
     def estimated(self, event, insurer):
         """The schedule of the estimated gross losses of an insurer for an event."""
@@ -134,7 +138,7 @@ class Post:
     def pending(self):
         """A pair of the insurers with a change to report, and the numbers of the notices worth delivering."""
         insurers = [insurer for insurer in self.market.insurers if len(self._changes(insurer)) > 0]
-        numbers = [number for number in self.notices if self._is_worth(number)]
+        numbers = [number for number in self.numbers if self._is_worth(number)]
         return tuple(insurers), tuple(numbers)
 
     def is_quiet(self):
@@ -219,20 +223,24 @@ class Post:
         """Enters notices of what was sent last for pairs (treaty, event), and tells their numbers."""
         rows = [(recipient, number, event) + last[(number, event)]
                 for number, event in keys for recipient in participants(self.market.treaties[number][2])]
-        ahead = len(self.numbers)
+        ahead = len(self.notices)
         if ahead + len(rows) > MOST_NOTICES:
             raise TooMany("there would be more than 2000 notices")
-        notices = copied(self.notices)
-        for number, row in enumerate(rows, start=ahead + 1):
-            notices[number] = row
         numbers = tuple(range(ahead + 1, ahead + len(rows) + 1))
+        self._take_notices()
+        self.notices.extend(rows)
         self.numbers = self.numbers + numbers
-        self.notices = notices
         return numbers
+
+    def _take_notices(self):
+        """Makes the list of the notices one that no trial keeps."""
+        if self.is_kept:
+            self.notices = list(self.notices)
+            self.is_kept = False
 
     def _is_worth(self, number):
         """Whether a notice that was not dropped is worth delivering."""
-        recipient, treaty, event, sequence, _ = self.notices[number]
+        recipient, treaty, event, sequence, _ = self.notices[number - 1]
         return (sequence == self._last_sequence(treaty, event)
                 and sequence > self._received_sequence(recipient, treaty, event))
 
